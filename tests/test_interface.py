@@ -107,7 +107,8 @@ class BeforeBegin(unittest.TestCase):
                 self.assertEqual(ask(call), [[-11]])
 
     def test_all_else_is_refused(self):
-        self.assertEqual(ask(*[(name, 0, 0, 0) for name in CALLS[11:]]), [[-11]] * 11)
+        counts = {"ifwrong": 3, "ifflip": 2}
+        self.assertEqual(ask(*[(name, *[0] * counts.get(name, 1)) for name in CALLS[11:]]), [[-11]] * 11)
 
     def test_nothing_is_put_by_what_is_refused(self):
         self.assertEqual(ask(("leaf", 1, 0), BEGIN, ("pop",), ("nodeis", 0)), [[-11], [0], [-6], [-2]])
