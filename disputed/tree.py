@@ -16,7 +16,7 @@ NO_NODE = -2
 NONE_LEFT = -6
 BAD_NUMBERS = -22
 TOO_MANY = -28
-NO_LEAF = -33
+UNFIT = -33
 
 
 # A leaf has so and misread and no children; the others have children alone.
@@ -88,7 +88,7 @@ def flip_leaf(nodes, i):
         return [NO_NODE]
     node = nodes[i]
     if node.kind != LEAF:
-        return [NO_LEAF]
+        return [UNFIT]
     node.so = 1 - node.so
     return [node.so]
 
@@ -100,7 +100,7 @@ def change_misread(nodes, i, misread):
         return [BAD_NUMBERS]
     node = nodes[i]
     if node.kind != LEAF:
-        return [NO_LEAF]
+        return [UNFIT]
     before = node.misread
     node.misread = misread
     return [before]

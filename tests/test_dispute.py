@@ -1,5 +1,4 @@
 import itertools
-import random
 import unittest
 from fractions import Fraction
 
@@ -99,87 +98,6 @@ class ANode(unittest.TestCase):
     def test_the_newest_change_counts(self):
         self.assertEqual(ask_last(("leaf", 1, 5), ("all_of", 0), ("held", 1), ("wrong", 0, 50), ("held", 1)), [0, 1, 2])
         self.assertEqual(ask_last(("leaf", 1, 5), ("all_of", 0), ("held", 1), ("flip", 0), ("held", 1)), [0, 1, 20])
-
-
-def some_tree(source, most):
-    """Calls that put a tree of all kinds, each node beneath at most one other."""
-    calls = []
-    free = []
-    for place in range(source.randint(1, most)):
-        if not free or source.random() < 0.6:
-            misread = source.choice((0, 100, source.randint(0, 100), source.randint(0, 40)))
-            calls.append(("leaf", source.randint(0, 1), misread))
-        else:
-            row = source.sample(free, source.randint(1, min(4, len(free))))
-            calls.append((source.choice(("all_of", "some")), *row))
-            free = [one for one in free if one not in row]
-        free.append(place)
-    return calls
-
-
-def holds(calls, place):
-    name, *row = calls[place]
-    if name == "leaf":
-        return row[0] == 1
-    return (all if name == "all_of" else any)([holds(calls, child) for child in row])
-
-
-def read_leaf(calls, place, picks):
-    while calls[place][0] != "leaf":
-        place = picks[place]
-    so, misread = calls[place][1:]
-    return Fraction(100 - misread if so == 1 else misread, 100)
-
-
-def all_picks(calls, name):
-    places = [place for place, call in enumerate(calls) if call[0] == name]
-    for chosen in itertools.product(*[calls[place][1:] for place in places]):
-        yield dict(zip(places, chosen))
-
-
-def held_by_all_picks(calls, place):
-    """The most that who is for it can be sure of, and the least that who is against it can."""
-    said, doubted = list(all_picks(calls, "some")), list(all_picks(calls, "all_of"))
-    sure = max(min(read_leaf(calls, place, {**one, **other}) for other in doubted) for one in said)
-    kept = min(max(read_leaf(calls, place, {**one, **other}) for one in said) for other in doubted)
-    return sure, kept
-
-
-def leaves_below(calls, place):
-    name, *row = calls[place]
-    if name == "leaf":
-        return [calls[place]]
-    return sum([leaves_below(calls, child) for child in row], [])
-
-
-def many_trees(most):
-    source = random.Random(2026)
-    return [some_tree(source, most) for turn in range(300)]
-
-
-class ManyTrees(unittest.TestCase):
-    def test_as_if_all_picks_were_tried(self):
-        for calls in many_trees(11):
-            place = len(calls) - 1
-            sure, kept = held_by_all_picks(calls, place)
-            self.assertEqual(sure, kept, calls)
-            true = holds(calls, place)
-            right = sure if true else 1 - sure
-            self.assertEqual(judged(*calls), [
-                [1 if true else 0], [0, sure.numerator, sure.denominator], [0, right.numerator, right.denominator]], calls)
-
-    def test_who_is_right_wins_always_if_no_leaf_is_misread(self):
-        for calls in many_trees(20):
-            plain = [("leaf", call[1], 0) if call[0] == "leaf" else call for call in calls]
-            true = 1 if holds(plain, len(plain) - 1) else 0
-            self.assertEqual(judged(*plain), [[true], [0, true, 1], [0, 1, 1]], plain)
-
-    def test_who_is_right_wins_as_often_as_the_worst_leaf_is_read_right(self):
-        for calls in many_trees(20):
-            worst = max(misread for name, so, misread in leaves_below(calls, len(calls) - 1))
-            zero, top, bottom = judged(*calls)[2]
-            self.assertEqual(zero, 0)
-            self.assertGreaterEqual(Fraction(top, bottom), Fraction(100 - worst, 100), calls)
 
 
 if __name__ == "__main__":

@@ -1,19 +1,6 @@
 import unittest
 
-from tests.lines import BEGIN, TOP, ask, ask_last
-
-# Two leaves beneath an all-of, one beneath a some-of, one free: 0, 1 in 2; 3 in 4; 5.
-SMALL = (("leaf", 1, 10), ("leaf", 0, 25), ("all_of", 1, 0), ("leaf", 1, 40), ("some", 3), ("leaf", 0, 100))
-FULL = tuple(("leaf", place % 2, place) for place in range(20))
-
-
-def after(calls):
-    """What all calls answer of the nodes behind these, which children are free, and what number comes next."""
-    shown = [("nodeis", place) for place in range(20)]
-    judged = [("held", 2), ("true", 2), ("right", 4)]
-    built = [("some", 5), ("all_of", 2, 4), ("pop",), ("leaf", 0, 0), ("pop",)]
-    found = ask(BEGIN, *calls, *shown, *judged, *built)
-    return found[1 + len(calls):]
+from tests.lines import BEGIN, CHAIN, FULL, SMALL, TOP, after, ask, ask_last
 
 
 class Leaf(unittest.TestCase):
@@ -53,8 +40,7 @@ class AllOfAndSome(unittest.TestCase):
                 self.assertEqual(ask_last(*FULL, (name, 0), ("pop",), (name, 0)), [19])
 
     def test_a_chain_of_twenty(self):
-        chain = [("leaf", 1, 30)] + [(("some", "all_of")[place % 2], place) for place in range(19)]
-        found = ask(BEGIN, *chain, ("nodeis", 19), ("true", 19), ("held", 19), ("right", 19), ("some", 19))
+        found = ask(BEGIN, *CHAIN, ("nodeis", 19), ("true", 19), ("held", 19), ("right", 19), ("some", 19))
         self.assertEqual(found[21:], [[2, 18], [1], [0, 7, 10], [0, 7, 10], [-28]])
 
 
